@@ -1,0 +1,45 @@
+"""Answers a request: a list of calls on one new object."""
+
+from gameforms.codes import INVALID, NO_INSTANCE, NOT_READY
+from gameforms.domain_calls import answer_domain_call
+from gameforms.instance import Instance
+from gameforms.mechanism_calls import answer_mechanism_call
+from gameforms.reading import read_calls
+from gameforms.target_calls import answer_target_call
+
+CREATE = 0
+LAST_DOMAIN_CALL = 2
+LAST_TARGET_CALL = 8
+CALLS_WHEN_READY = (3, 4, 5, 6, 7, 8, 11)
+
+
+def answers(calls):
+    instance = None
+    answered = []
+    for number, arguments in read_calls(calls):
+        if number != CREATE:
+            answer = answer_call(instance, number, arguments)
+        elif can_create(arguments[0], arguments[1]):
+            instance = Instance(arguments[0], arguments[1])
+            answer = [0]
+        else:
+            answer = [INVALID]
+        answered.append(len(answer))
+        answered.extend(answer)
+    return answered
+
+
+def can_create(agent_count, alternative_count):
+    return 1 <= agent_count <= 3 and 2 <= alternative_count <= 4
+
+
+def answer_call(instance, number, arguments):
+    if instance is None:
+        return [NO_INSTANCE]
+    if number in CALLS_WHEN_READY and not instance.is_ready():
+        return [NOT_READY]
+    if number <= LAST_DOMAIN_CALL:
+        return answer_domain_call(instance, number, arguments)
+    if number <= LAST_TARGET_CALL:
+        return answer_target_call(instance, number, arguments)
+    return answer_mechanism_call(instance, number, arguments)
