@@ -40,3 +40,8 @@ def positions_by_choice(choices, agent, sizes):
     step = count_choices(sizes[agent + 1:])
     lowest = position_of(choices, sizes) - choices[agent] * step
     return [lowest + choice * step for choice in range(sizes[agent])]
+
+
+# Each line: the positions that one agent reaches by each of its choices, for one choice of the others.
+def lines_of(agent, sizes):
+    return [positions_by_choice(choices, agent, sizes) for choices in all_choices(sizes) if choices[agent] == 0]

@@ -1,4 +1,4 @@
-"""The calls that set or read the mechanism: 9 to 12."""
+"""The calls that set or read the mechanism: 9 to 13."""
 
 from gameforms.choices import count_choices, fits, position_of
 from gameforms.codes import INVALID
@@ -13,7 +13,9 @@ def answer_mechanism_call(instance, number, arguments):
         return set_mechanism_outcome(instance, arguments[0], arguments[1])
     if number == 11:
         return use_direct_mechanism(instance)
-    return mechanism_outcome(instance, arguments[0])
+    if number == 12:
+        return mechanism_outcome(instance, arguments[0])
+    return tell_message_counts(instance)
 
 
 def set_message_counts(instance, message_counts):
@@ -46,3 +48,7 @@ def mechanism_outcome(instance, messages):
     if not fits(messages, instance.message_counts):
         return [INVALID]
     return [instance.mechanism[position_of(messages, instance.message_counts)]]
+
+
+def tell_message_counts(instance):
+    return [instance.agent_count] + instance.message_counts

@@ -19,3 +19,8 @@ def all_rankings(alternative_count):
 
 def preferred_to(ranking, alternative):
     return ranking[:ranking.index(alternative)]
+
+
+# How far down the ranking the outcome of each position stands: the lower, the better.
+def places_on(positions, table, ranking):
+    return [ranking.index(table[position]) for position in positions]

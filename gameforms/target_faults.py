@@ -1,7 +1,7 @@
 """Where the target fails: monotonicity violations and manipulations."""
 
 from gameforms.choices import all_choices, positions_by_choice
-from gameforms.masks import lowest_member, mask_of
+from gameforms.masks import lowest_member, mask_of, positions_of_others
 from gameforms.rankings import preferred_to
 
 
@@ -9,7 +9,7 @@ from gameforms.rankings import preferred_to
 # one by one would take long when there are many of them.
 def first_monotonicity_violation(instance):
     profiles = all_choices(instance.domain_sizes())
-    elsewhere = [other_outcomes(instance.target, outcome) for outcome in range(instance.alternative_count)]
+    elsewhere = [positions_of_others(instance.target, outcome) for outcome in range(instance.alternative_count)]
     holding = [holding_profiles(instance, profiles, agent) for agent in range(instance.agent_count)]
     for profile, outcome in zip(profiles, instance.target):
         violating = elsewhere[outcome]
@@ -18,10 +18,6 @@ def first_monotonicity_violation(instance):
         if violating > 0:
             return profile + profiles[lowest_member(violating)]
     return None
-
-
-def other_outcomes(target, outcome):
-    return mask_of([position for position, other in enumerate(target) if other != outcome])
 
 
 # table[preference][outcome]: the profiles to which the agent may move from

@@ -16,6 +16,18 @@ NUMBERS = {
     "set_mechanism_outcome": 10,
     "use_direct_mechanism": 11,
     "mechanism_outcome": 12,
+    "message_counts": 13,
+    "count_equilibria": 14,
+    "equilibrium": 15,
+    "equilibrium_outcomes": 16,
+    "implements_in_nash": 17,
+    "best_response_dynamics": 18,
+    "dominant_messages": 19,
+    "dominated_messages": 20,
+    "implements_in_dominant_strategies": 21,
+    "can_force": 22,
+    "can_respond": 23,
+    "describe": 24,
 }
 
 LARGEST = 4294967295

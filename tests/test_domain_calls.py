@@ -1,4 +1,4 @@
-"""create, add_preference and set_full_domain."""
+"""create, add_preference, set_full_domain and describe."""
 
 import unittest
 from itertools import permutations, product
@@ -206,6 +206,40 @@ class SetFullDomain(unittest.TestCase):
         setup = [("create", 1, 4), ("add_preference", 0, [3, 2, 1, 0]), ("use_dictatorship", 0)]
         calls = [("set_full_domain", 0), ("target_outcome", [0]), ("target_outcome", [1])]
         self.assertEqual(ask_after(setup, calls), [[-28], [3], [-22]])
+
+
+class Describe(unittest.TestCase):
+    def test_every_size_before_any_preference(self):
+        for agents, alternatives in product((1, 2, 3), EACH_ALTERNATIVE_COUNT):
+            found = ask_after([("create", agents, alternatives)], [("describe",)])
+            self.assertEqual(found, [[agents, alternatives] + [0] * agents])
+
+    def test_the_sizes_of_the_domains(self):
+        calls = [
+            ("describe",), ("set_full_domain", 2), ("describe",), ("add_preference", 0, [1, 0, 2]), ("describe",),
+            ("add_preference", 0, [2, 0, 1]), ("describe",), ("set_full_domain", 0), ("describe",),
+        ]
+        expected = [[3, 3, 0, 0, 0], [3, 3, 0, 0, 6], [3, 3, 1, 0, 6], [3, 3, 2, 0, 6], [3, 3, 6, 0, 6]]
+        self.assertEqual(ask_after([("create", 3, 3)], calls)[::2], expected)
+
+    def test_six_preferences(self):
+        rankings = [list(ranking) for ranking in permutations(range(4))]
+        setup = [("create", 2, 4)] + [("add_preference", 1, ranking) for ranking in rankings[:6]]
+        self.assertEqual(ask_after(setup, [("describe",)]), [[2, 4, 0, 6]])
+
+    def test_refused_preferences_are_not_counted(self):
+        setup = [("create", 1, 2), ("add_preference", 0, [1, 0])]
+        for bad in ([1, 0], [0, 0], []):
+            self.assertEqual(ask_after(setup, [("add_preference", 0, bad), ("describe",)])[1], [1, 2, 1])
+
+    def test_messages_do_not_count(self):
+        setup = [("create", 2, 2), ("set_full_domain", 1), ("set_message_counts", [6, 5])]
+        self.assertEqual(ask_after(setup, [("describe",)]), [[2, 2, 0, 2]])
+
+    def test_the_instance_of_the_last_create(self):
+        setup = [("create", 2, 3), ("set_full_domain", 0), ("create", 1, 4)]
+        calls = [("describe",), ("create", 4, 4), ("describe",)]
+        self.assertEqual(ask_after(setup, calls), [[1, 4, 0], [-22], [1, 4, 0]])
 
 
 if __name__ == "__main__":

@@ -116,6 +116,16 @@ class Language(unittest.TestCase):
             read = [node.id for node in ast.walk(tree) if isinstance(node, ast.Name)]
             self.assertEqual(set(read) - known, set(), name)
 
+    def test_what_is_walked_at_once_is_not_kept(self):
+        walked = {"zip", "enumerate", "reversed", "range"}
+        for name, tree in trees():
+            for node in ast.walk(tree):
+                if isinstance(node, (ast.Assign, ast.Return)) and isinstance(node.value, ast.Call):
+                    call = node.value.func
+                    self.assertFalse(isinstance(call, ast.Name) and call.id in walked, (name, node.lineno))
+                    kept = isinstance(call, ast.Attribute) and call.attr in {"items", "keys", "values"}
+                    self.assertFalse(kept, (name, node.lineno))
+
     def test_methods_are_those_of_the_list_or_the_packages_own(self):
         own = set()
         for name, tree in trees():

@@ -1,4 +1,4 @@
-"""set_message_counts, set_mechanism_outcome, use_direct_mechanism and mechanism_outcome."""
+"""set_message_counts, set_mechanism_outcome, use_direct_mechanism, mechanism_outcome and message_counts."""
 
 import unittest
 from itertools import product
@@ -174,6 +174,37 @@ class MechanismOutcome(unittest.TestCase):
 
     def test_needs_no_preferences(self):
         self.assertEqual(ask_after([("create", 2, 4)], [("mechanism_outcome", [0, 0])]), [[0]])
+
+
+class MessageCounts(unittest.TestCase):
+    def test_begins_with_one_message_each(self):
+        for agents in (1, 2, 3):
+            self.assertEqual(ask_after([("create", agents, 2)], [("message_counts",)]), [[agents] + [1] * agents])
+
+    def test_as_set(self):
+        for counts in ([1], [6], [2, 3], [6, 1], [4, 1, 6], [6, 6, 6]):
+            setup = [("create", len(counts), 4), ("set_message_counts", counts)]
+            self.assertEqual(ask_after(setup, [("message_counts",)]), [[len(counts), *counts]])
+
+    def test_the_last_that_were_set(self):
+        setup = [("create", 2, 2), ("set_message_counts", [5, 2]), ("set_message_counts", [3, 4])]
+        calls = [("message_counts",), ("set_message_counts", [7, 1]), ("message_counts",)]
+        self.assertEqual(ask_after(setup, calls), [[2, 3, 4], [-22], [2, 3, 4]])
+
+    def test_of_the_direct_mechanism(self):
+        setup = [("create", 3, 3), ("set_full_domain", 0), ("add_preference", 1, [2, 1, 0])]
+        setup += [("add_preference", 2, [0, 1, 2]), ("add_preference", 2, [0, 2, 1]), ("use_direct_mechanism",)]
+        calls = [("message_counts",), ("add_preference", 1, [0, 1, 2]), ("message_counts",), ("use_direct_mechanism",)]
+        self.assertEqual(ask_after(setup, calls + calls[:1]), [[3, 6, 1, 2], [1], [3, 6, 1, 2], [24], [3, 6, 2, 2]])
+
+    def test_not_changed_by_preferences_and_outcomes(self):
+        setup = [("create", 2, 2), ("set_message_counts", [3, 4])]
+        for call in (("add_preference", 0, [1, 0]), ("set_full_domain", 1), ("set_mechanism_outcome", 1, [2, 3])):
+            self.assertEqual(ask_after(setup + [call], [("message_counts",)]), [[2, 3, 4]])
+
+    def test_a_second_create_begins_anew(self):
+        setup = [("create", 2, 2), ("set_message_counts", [3, 4]), ("create", 3, 2)]
+        self.assertEqual(ask_after(setup, [("message_counts",)]), [[3, 1, 1, 1]])
 
 
 if __name__ == "__main__":

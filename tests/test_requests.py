@@ -20,6 +20,18 @@ WRONG_CALLS = {
     "set_mechanism_outcome": ("set_mechanism_outcome", 9, [9]),
     "use_direct_mechanism": ("use_direct_mechanism",),
     "mechanism_outcome": ("mechanism_outcome", []),
+    "message_counts": ("message_counts",),
+    "count_equilibria": ("count_equilibria", [9]),
+    "equilibrium": ("equilibrium", 9, [9]),
+    "equilibrium_outcomes": ("equilibrium_outcomes", []),
+    "implements_in_nash": ("implements_in_nash",),
+    "best_response_dynamics": ("best_response_dynamics", [9]),
+    "dominant_messages": ("dominant_messages", 9, 9),
+    "dominated_messages": ("dominated_messages", 0, 9),
+    "implements_in_dominant_strategies": ("implements_in_dominant_strategies",),
+    "can_force": ("can_force", 9, 9),
+    "can_respond": ("can_respond", 0, LARGEST),
+    "describe": ("describe",),
 }
 
 RIGHT_CALLS = {
@@ -35,22 +47,59 @@ RIGHT_CALLS = {
     "set_mechanism_outcome": ("set_mechanism_outcome", 1, [0, 0]),
     "use_direct_mechanism": ("use_direct_mechanism",),
     "mechanism_outcome": ("mechanism_outcome", [0, 0]),
+    "message_counts": ("message_counts",),
+    "count_equilibria": ("count_equilibria", [0, 0]),
+    "equilibrium": ("equilibrium", 0, [0, 0]),
+    "equilibrium_outcomes": ("equilibrium_outcomes", [0, 0]),
+    "implements_in_nash": ("implements_in_nash",),
+    "best_response_dynamics": ("best_response_dynamics", [0, 0, 0, 0]),
+    "dominant_messages": ("dominant_messages", 0, 0),
+    "dominated_messages": ("dominated_messages", 0, 0),
+    "implements_in_dominant_strategies": ("implements_in_dominant_strategies",),
+    "can_force": ("can_force", 1, 1),
+    "can_respond": ("can_respond", 1, 1),
+    "describe": ("describe",),
 }
 
 NEEDS_READY = [
     "set_target_outcome", "use_dictatorship", "use_borda", "target_outcome", "monotonicity_violation",
-    "find_manipulation", "use_direct_mechanism",
+    "find_manipulation", "use_direct_mechanism", "count_equilibria", "equilibrium", "equilibrium_outcomes",
+    "implements_in_nash", "best_response_dynamics", "implements_in_dominant_strategies",
 ]
 
 
 class Examples(unittest.TestCase):
-    def test_the_rows_of_these_calls(self):
-        calls = [
-            ("create", 2, 2), ("set_full_domain", 0), ("set_full_domain", 1), ("use_borda",),
-            ("set_message_counts", [2, 2]), ("set_mechanism_outcome", 1, [0, 1]), ("set_mechanism_outcome", 1, [1, 0]),
-            ("use_direct_mechanism",),
+    def test_all_rows_in_their_order(self):
+        rows = [
+            (("create", 2, 2), [0]),
+            (("set_full_domain", 0), [2]),
+            (("set_full_domain", 1), [2]),
+            (("use_borda",), [0]),
+            (("set_message_counts", [2, 2]), [4]),
+            (("set_mechanism_outcome", 1, [0, 1]), [0]),
+            (("set_mechanism_outcome", 1, [1, 0]), [0]),
+            (("count_equilibria", [0, 0]), [2]),
+            (("equilibrium", 1, [0, 0]), [2, 1, 1]),
+            (("count_equilibria", [0, 1]), [0]),
+            (("implements_in_nash",), [0, 0, 1]),
+            (("best_response_dynamics", [0, 0, 0, 1]), [1, 1, 1]),
+            (("best_response_dynamics", [0, 1, 0, 0]), [-75]),
+            (("can_force", 1, 1), [0]),
+            (("can_respond", 1, 1), [1]),
+            (("use_direct_mechanism",), [4]),
+            (("dominant_messages", 0, 0), [1]),
+            (("implements_in_dominant_strategies",), [1]),
         ]
-        self.assertEqual(ask(calls), [[0], [2], [2], [0], [4], [0], [0], [4]])
+        self.assertEqual(ask([call for call, answer in rows]), [answer for call, answer in rows])
+
+    def test_as_whole_numbers(self):
+        calls = [0, 2, 2, 2, 0, 2, 1, 5, 9, 2, 2, 2, 10, 1, 2, 0, 1, 10, 1, 2, 1, 0]
+        calls += [14, 2, 0, 0, 15, 1, 2, 0, 0, 14, 2, 0, 1, 17, 18, 4, 0, 0, 0, 1, 18, 4, 0, 1, 0, 0]
+        calls += [22, 1, 1, 23, 1, 1, 11, 19, 0, 0, 21]
+        expected = [1, 0, 1, 2, 1, 2, 1, 0, 1, 4, 1, 0, 1, 0]
+        expected += [1, 2, 3, 2, 1, 1, 1, 0, 3, 0, 0, 1, 3, 1, 1, 1, 1, -75]
+        expected += [1, 0, 1, 1, 1, 4, 1, 1, 1, 1]
+        self.assertEqual(answers(calls), expected)
 
 
 class NoInstance(unittest.TestCase):
@@ -89,6 +138,12 @@ class NotReady(unittest.TestCase):
             "set_message_counts": ([-22], [4]),
             "set_mechanism_outcome": ([-22], [0]),
             "mechanism_outcome": ([-22], [0]),
+            "message_counts": ([2, 1, 1], [2, 1, 1]),
+            "dominant_messages": ([-2], [-2]),
+            "dominated_messages": ([-2], [-2]),
+            "can_force": ([-22], [1]),
+            "can_respond": ([-22], [1]),
+            "describe": ([2, 2, 0, 0], [2, 2, 0, 0]),
         }
         self.assertEqual(set(expected) | set(NEEDS_READY), set(RIGHT_CALLS))
         for name, (wrong, right) in expected.items():
@@ -106,7 +161,11 @@ class NotReady(unittest.TestCase):
 PROBES = (
     [("target_outcome", list(profile)) for profile in product(range(7), range(4))]
     + [("mechanism_outcome", list(messages)) for messages in product(range(4), range(5))]
-    + [("monotonicity_violation",), ("find_manipulation",)]
+    + [("monotonicity_violation",), ("find_manipulation",), ("message_counts",), ("describe",)]
+    + [("implements_in_nash",), ("implements_in_dominant_strategies",)]
+    + [("count_equilibria", list(profile)) for profile in product(range(6), range(2))]
+    + [("dominant_messages", agent, preference) for agent in range(2) for preference in range(6)]
+    + [("can_force", 1, alternatives) for alternatives in range(8)]
     + [("set_message_counts", [1]), ("set_mechanism_outcome", 3, [0, 0]), ("set_full_domain", 2)]
     + [("use_borda",)] + [("target_outcome", list(profile)) for profile in product(range(6), range(3))]
     + [("use_direct_mechanism",)] + [("mechanism_outcome", list(profile)) for profile in product(range(6), range(3))]
@@ -132,10 +191,21 @@ REFUSED = [
     (("set_message_counts", [2, 2, 2]), -22),
     (("set_mechanism_outcome", 3, [0, 0]), -22), (("set_mechanism_outcome", 1, [3, 0]), -22),
     (("set_mechanism_outcome", 1, [0]), -22), (("mechanism_outcome", [0, 4]), -22),
+    (("count_equilibria", [6, 0]), -22), (("count_equilibria", []), -22), (("equilibrium", 0, [0, 2]), -22),
+    (("equilibrium", 12, [0, 0]), -33), (("equilibrium", LARGEST, [0, 0]), -33),
+    (("equilibrium_outcomes", [0]), -22), (("best_response_dynamics", [0, 0, 3, 0]), -22),
+    (("best_response_dynamics", [0, 2, 0, 0]), -22), (("best_response_dynamics", [0, 0]), -22),
+    (("dominant_messages", 2, 0), -2), (("dominant_messages", 1, 2), -2), (("dominated_messages", 0, 6), -2),
+    (("dominated_messages", LARGEST, LARGEST), -2), (("can_force", 4, 1), -22), (("can_force", 1, 8), -22),
+    (("can_respond", 4, 1), -22), (("can_respond", 1, 8), -22),
 ]
 
 LOOKING = [
     ("target_outcome", [4, 0]), ("monotonicity_violation",), ("find_manipulation",), ("mechanism_outcome", [2, 3]),
+    ("message_counts",), ("count_equilibria", [4, 0]), ("equilibrium", 0, [0, 0]), ("equilibrium_outcomes", [4, 1]),
+    ("implements_in_nash",), ("best_response_dynamics", [4, 0, 0, 0]), ("dominant_messages", 1, 0),
+    ("dominated_messages", 0, 4), ("implements_in_dominant_strategies",), ("can_force", 1, 3), ("can_respond", 2, 5),
+    ("describe",),
 ]
 
 
@@ -170,6 +240,16 @@ class UnchangedState(unittest.TestCase):
         expected = ask_after(setup, PROBES)
         for name in NEEDS_READY:
             self.assertEqual(ask_after(setup, [RIGHT_CALLS[name]] + PROBES), [[-16]] + expected, name)
+
+    def test_dynamics_that_do_not_end(self):
+        setup = [("create", 2, 2), ("set_full_domain", 0), ("set_full_domain", 1), ("set_message_counts", [2, 2])]
+        setup += [("set_mechanism_outcome", 1, [0, 1]), ("set_mechanism_outcome", 1, [1, 0])]
+        found = ask_after(setup, [("best_response_dynamics", [0, 1, 0, 0])] + PROBES)
+        self.assertEqual(found, [[-75]] + ask_after(setup, PROBES))
+
+    def test_looking_calls_are_all_that_may_not_change_the_state(self):
+        changing = {name for name, number in NUMBERS.items() if number <= 5 or 9 <= number <= 11}
+        self.assertEqual({call[0] for call in LOOKING}, set(NUMBERS) - changing)
 
     def test_limits(self):
         rankings = [list(ranking) for ranking in permutations(range(4))]

@@ -5,6 +5,7 @@ import unittest
 from itertools import permutations, product
 
 from tests import reference
+from tests.games import setup_of_domains
 from tests.requests import LARGEST, ask_after, last
 
 TWO_BY_TWO = [("create", 2, 2), ("set_full_domain", 0), ("set_full_domain", 1)]
@@ -14,13 +15,6 @@ UNEVEN = [("create", 2, 3), ("set_full_domain", 0), ("add_preference", 1, [2, 1,
 NO_PROFILES = [
     [], [0], [0, 0, 0], [6, 0], [0, 2], [LARGEST, 0], [0, LARGEST], [5, 1, 0], [0] * 8, [LARGEST] * 8,
 ]
-
-
-def setup_of(domains, alternative_count):
-    calls = [("create", len(domains), alternative_count)]
-    for agent, domain in enumerate(domains):
-        calls += [("add_preference", agent, list(ranking)) for ranking in domain]
-    return calls
 
 
 class SetTargetOutcome(unittest.TestCase):
@@ -104,17 +98,17 @@ class UseBorda(unittest.TestCase):
 
     def test_a_compromise_wins(self):
         # 0 and 3 are each the best of one agent; 2 has the points 2 + 2 + 2.
-        setup = setup_of([[(0, 2, 1, 3)], [(3, 2, 1, 0)], [(1, 2, 3, 0)]], 4)
+        setup = setup_of_domains([[(0, 2, 1, 3)], [(3, 2, 1, 0)], [(1, 2, 3, 0)]], 4)
         self.assertEqual(ask_after(setup, [("use_borda",), ("target_outcome", [0, 0, 0])]), [[0], [2]])
 
     def test_a_tie_goes_to_the_lowest_number(self):
-        setup = setup_of([[(0, 1, 2)], [(2, 1, 0)]], 3)
+        setup = setup_of_domains([[(0, 1, 2)], [(2, 1, 0)]], 3)
         self.assertEqual(ask_after(setup, [("use_borda",), ("target_outcome", [0, 0])]), [[0], [0]])
-        setup = setup_of([[(2, 1, 0)], [(1, 2, 0)]], 3)
+        setup = setup_of_domains([[(2, 1, 0)], [(1, 2, 0)]], 3)
         self.assertEqual(ask_after(setup, [("use_borda",), ("target_outcome", [0, 0])]), [[0], [1]])
 
     def test_one_agent_gets_its_best(self):
-        setup = setup_of([[(2, 3, 0, 1), (1, 0, 3, 2)]], 4)
+        setup = setup_of_domains([[(2, 3, 0, 1), (1, 0, 3, 2)]], 4)
         calls = [("use_borda",), ("target_outcome", [0]), ("target_outcome", [1])]
         self.assertEqual(ask_after(setup, calls), [[0], [2], [1]])
 
@@ -135,7 +129,7 @@ class UseBorda(unittest.TestCase):
             profiles = reference.profiles_of(domains)
             calls = [("use_borda",)] + [("target_outcome", list(profile)) for profile in profiles]
             expected = [[0]] + [[reference.borda(domains, profile, 4)] for profile in profiles]
-            self.assertEqual(ask_after(setup_of(domains, 4), calls), expected)
+            self.assertEqual(ask_after(setup_of_domains(domains, 4), calls), expected)
 
 
 class TargetOutcome(unittest.TestCase):
@@ -149,7 +143,7 @@ class TargetOutcome(unittest.TestCase):
 
     def test_domain_of_6_preferences(self):
         rankings = list(permutations(range(4)))
-        setup = setup_of([rankings[18:]], 4) + [("set_target_outcome", 3, [5])]
+        setup = setup_of_domains([rankings[18:]], 4) + [("set_target_outcome", 3, [5])]
         calls = [("target_outcome", [index]) for index in range(7)]
         self.assertEqual(ask_after(setup, calls), [[0]] * 5 + [[3], [-22]])
 

@@ -5,6 +5,7 @@ import unittest
 from itertools import permutations
 
 from tests import reference
+from tests.games import setup_of_domains, setup_of_target
 from tests.requests import ask_after
 
 
@@ -31,12 +32,7 @@ def random_target(chance):
 
 
 def setup_of(domains, alternative_count, target):
-    calls = [("create", len(domains), alternative_count)]
-    for agent, domain in enumerate(domains):
-        calls += [("add_preference", agent, list(ranking)) for ranking in domain]
-    for profile, outcome in target.items():
-        calls.append(("set_target_outcome", outcome, list(profile)))
-    return calls
+    return setup_of_domains(domains, alternative_count) + setup_of_target(target)
 
 
 class MonotonicityViolation(unittest.TestCase):
